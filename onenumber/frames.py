@@ -5,7 +5,7 @@ The functions below the checks take any number of pairs; those of the interface 
 
 from math import gcd
 
-from onenumber.amounts import ONE, ZERO, is_above_zero, is_whole, multiply, subtract
+from onenumber.amounts import ONE, ZERO, divide, is_above_zero, is_whole, multiply, subtract
 from onenumber.errors import BadPairs, NoFrame
 from onenumber.pairs import NOTHING, add_pairs, arrow, is_pair, multiply_pair, reach, turn
 
@@ -21,9 +21,9 @@ def require_at_most_80(value):
             raise BadPairs(value)
 
 
-def length(pair):
-    """How many bits the longest integer of a pair has."""
-    return max(part.bit_length() for amount in pair for part in amount)
+def length(fractions):
+    """How many bits the longest integer of a pair, or of a list of fractions, has."""
+    return max(part.bit_length() for amount in fractions for part in amount)
 
 
 def closing(arrows, first, last, number):
@@ -72,18 +72,6 @@ def turning(one, other):
     return distance(subtract(multiply(one[0], other[1]), multiply(one[1], other[0])))
 
 
-def raw_shares(pairs):
-    """Shares above 0 by which the one, two or three pairs of a ring come to nothing."""
-    if len(pairs) == 1:
-        return [ONE]
-    if len(pairs) == 2:
-        one, other = pairs
-        side = 1 if one[0] == ZERO else 0
-        return [distance(other[side]), distance(one[side])]
-    one, other, third = pairs
-    return [turning(other, third), turning(third, one), turning(one, other)]
-
-
 def divisor(numbers):
     """The greatest common divisor of a list of integers."""
     common = 0
@@ -99,6 +87,32 @@ def shorter(shares):
     return [(top // above, bottom // below) for top, bottom in shares]
 
 
+def stretch(pair):
+    """How often a pair, not ((0, 1), (0, 1)), has its arrow."""
+    side = 1 if pair[0] == ZERO else 0
+    return divide(pair[side], (arrow(pair)[side], 1))
+
+
+def shares_of_three(one, other, third):
+    """Shares above 0 by which the three pairs of a ring come to nothing."""
+    turned = ((one, other, third), (other, third, one), (third, one, other))
+    by_amounts = [turning(low, high) for _, low, high in turned]
+    # Where both fractions of a pair have a long weight in common, its arrow is short.
+    by_arrows = [divide((abs(turn(arrow(low), arrow(high))), 1), stretch(pair)) for pair, low, high in turned]
+    return min([shorter(by_amounts), shorter(by_arrows)], key=length)
+
+
+def shares_of(pairs):
+    """Shares above 0 by which the one, two or three pairs of a ring come to nothing."""
+    if len(pairs) == 1:
+        return [ONE]
+    if len(pairs) == 2:
+        one, other = pairs
+        side = 1 if one[0] == ZERO else 0
+        return shorter([distance(other[side]), distance(one[side])])
+    return shares_of_three(pairs[0], pairs[1], pairs[2])
+
+
 def find_ring(pairs):
     """Any ring of a list or tuple of pairs, or None."""
     if not pairs:
@@ -106,8 +120,7 @@ def find_ring(pairs):
     numbers = sorted(outermost_of(pairs)[0])
     if not numbers:
         return None
-    shares = shorter(raw_shares([pairs[number] for number in numbers]))
-    return tuple(zip(numbers, shares))
+    return tuple(zip(numbers, shares_of([pairs[number] for number in numbers])))
 
 
 def require_frame(pairs):

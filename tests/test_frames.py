@@ -4,7 +4,8 @@ import unittest
 
 from onenumber.errors import BadPairs
 from onenumber.frames import is_ring, is_witness, ring, witness
-from tests.values import NOTHING, ODD, ONE, as_numbers, digits, random_fraction, random_pair
+from onenumber.pairs import spread
+from tests.values import HALF, NOTHING, ODD, ONE, as_numbers, digits, random_fraction, random_pair
 
 WORK, FILT, JOIN = ((1, 1), (1, 2)), ((-1, 10), (1, 2)), ((-1, 1), (-1, 1))
 EAST, NORTH, WEST, SOUTH = ((1, 1), (0, 1)), ((0, 1), (1, 1)), ((-1, 1), (0, 1)), ((0, 1), (-1, 1))
@@ -167,6 +168,21 @@ class Digits(unittest.TestCase):
         # A ring is of short pairs where there is one.
         self.judge(long + [((-1, 1), (-2, 1)), ((5, 1), (0, 1)), ((-3, 2), (7, 1))])
 
+    def test_what_all_shares_have_in_common(self):
+        bottom, top = 10 ** 149 + 3, 10 ** 99 + 7
+        for pairs in ([((1, bottom), (2, bottom)), ((-3, bottom), (1, bottom)), ((1, bottom), (-4, bottom))],
+                      [((top, 1), (2 * top, 1)), ((-3 * top, 1), (top, 1)), ((top, 1), (-4 * top, 1))],
+                      [((top, bottom), (0, 1)), ((-top, bottom), (top, bottom)), ((-top, bottom), (-top, bottom))]):
+            self.judge(pairs)
+            self.assertLessEqual(digits([share for _, share in ring(pairs)]), 3)
+
+    def test_long_weights(self):
+        source = random.Random(36)
+        for _ in range(30):
+            pairs = [random_pair(source, 10 ** 12) for _ in range(3)]
+            self.judge([spread(pair, random_fraction(source, 10 ** 200)) for pair in pairs])
+            self.judge([spread(pair, random_fraction(source, 10 ** 200)) for pair in (WORK, JOIN, EAST)])
+
     def test_opposite_long_pairs(self):
         top, bottom, other = 10 ** 350 + 1, 10 ** 349 + 7, 10 ** 348 + 9
         self.judge([((top, 1), (0, 1)), ((-1, bottom), (0, 1))])
@@ -201,8 +217,15 @@ class Judges(unittest.TestCase):
                       ((0, (-2, 1)), (1, (-1, 1))), ((0, (2, 1)), (1, (2, 2))), [(0, (2, 1)), (1, ONE)],
                       ((0, (2, 1)), [1, ONE]), ((0, ONE), (1, ONE)), ((4, ONE),), ((-2, ONE),), (), None,
                       ((0, (2, 1)), (1, ONE), ()), ((2, ONE, ONE),), ((2,),), (("2", ONE),), ((2, 1),), ((2, True),),
-                      ((0, (2, 1)), (1, (1, 2)), (2, ONE), (3, ONE)), ((False, (2, 1)), (1, ONE))):
+                      ((0, (2, 1)), (1, (1, 2)), (2, ONE), (3, ONE)), ((False, (2, 1)), (1, ONE)),
+                      ((2, ONE), (2, ONE)), ((2, ONE), (2, HALF), (2, ONE)), ((0, ONE), (0, ONE), (1, ONE))):
             self.assertIs(is_ring(pairs, value), False, value)
+
+    def test_numbers_from_behind_are_none(self):
+        for pairs in ([NOTHING], [WORK, NOTHING], [WORK, JOIN, NOTHING]):
+            self.assertIs(is_ring(pairs, ((len(pairs) - 1, ONE),)), True)
+            for number in (-1, -len(pairs), len(pairs)):
+                self.assertIs(is_ring(pairs, ((number, ONE),)), False)
 
     def test_only_one_of_the_sums_is_nothing(self):
         self.assertIs(is_ring([((1, 1), (1, 1)), ((-1, 1), (1, 1))], ((0, ONE), (1, ONE))), False)

@@ -14,7 +14,8 @@ LookupError ZeroDivisionError ArithmeticError OverflowError RuntimeError NotImpl
 StopIteration NotImplemented""".split())
 METHODS = set("""append clear copy count endswith extend find get index insert isalnum isalpha isdigit islower isspace
 isupper items join keys ljust lower lstrip partition pop remove replace reverse rfind rjust rpartition rsplit rstrip
-setdefault split splitlines startswith strip update upper values zfill bit_length removeprefix removesuffix""".split())
+setdefault split splitlines startswith strip update upper values zfill bit_length removeprefix removesuffix sort add
+discard""".split())
 LIBRARY = {"heapq": {"heappush", "heappop", "heapify", "heapreplace", "heappushpop"},
            "math": {"gcd", "lcm", "isqrt", "comb", "perm", "factorial"},
            "itertools": {"product", "combinations", "permutations"}}
@@ -126,10 +127,12 @@ class Language(unittest.TestCase):
                 if isinstance(node, ast.stmt):
                     self.assertIsInstance(node, STATEMENTS, (name, node.lineno))
                 if isinstance(node, (ast.FunctionDef, ast.ClassDef)):
-                    self.assertEqual(node.decorator_list, [], name)
+                    for entry in node.decorator_list:
+                        self.assertRegex(ast.unparse(entry), r"^(property|staticmethod|classmethod|\w+\.setter)$")
                     self.assertRegex(node.name, r"^(_?[A-Za-z][A-Za-z0-9_]*|__init__)$")
                 if isinstance(node, (ast.Lambda, ast.FunctionDef)):
-                    self.assertEqual(node.args.defaults, [], name)
+                    for entry in node.args.defaults + [entry for entry in node.args.kw_defaults if entry is not None]:
+                        self.assertNotIsInstance(entry, (ast.List, ast.Dict, ast.Set, ast.Call), name)
             for node in tree.body:
                 self.assertIsInstance(node, (ast.Expr, ast.ImportFrom, ast.FunctionDef, ast.ClassDef, ast.Assign), name)
                 if isinstance(node, ast.Expr):
@@ -139,7 +142,7 @@ class Language(unittest.TestCase):
         for name, tree in trees():
             told = docstrings(tree)
             for node in ast.walk(tree):
-                self.assertNotIsInstance(node, (ast.Div, ast.MatMult, ast.Set, ast.SetComp, ast.Await, ast.NamedExpr), name)
+                self.assertNotIsInstance(node, (ast.Div, ast.MatMult, ast.Await), name)
                 if isinstance(node, ast.BinOp) and isinstance(node.op, ast.Pow):
                     self.assertIsInstance(node.right, ast.Constant, name)
                     self.assertLessEqual(node.right.value, 64)
