@@ -1,9 +1,11 @@
 import copy
+import inspect
 import pickle
 import unittest
 
 from onenumber import errors
 from onenumber.errors import MixError
+from tests.values import ODD
 
 NAMES = """BadFraction BadPair BadPairs BadTerm BadMix BadPlace BadText BadLadder BadLadders NoFrame BadHabit
 BadChoice BadCourse BadTerms NoFit NoCompany BadWays BadNumber BadForest BadOrder BadJoin BadRow BadTable BadBox
@@ -23,6 +25,18 @@ class Errors(unittest.TestCase):
             for value in (None, True, 0, "", [], [1, [2]], {"a": 1}, ("end",), 10 ** 9000, "x" * 50000):
                 error = getattr(errors, name)(value)
                 self.assertIs(error.value, value, name)
+                self.assertIs(getattr(errors, name)(value=value).value, value, name)
+
+    def test_values_of_all_kinds(self):
+        for name in NAMES:
+            for value in ODD:
+                self.assertIs(getattr(errors, name)(value).value, value, name)
+
+    def test_each_is_made_by_its_own_body(self):
+        for name in ["MixError"] + NAMES:
+            self.assertTrue(inspect.isfunction(vars(getattr(errors, name)).get("__init__")), name)
+            self.assertEqual(list(inspect.signature(getattr(errors, name)).parameters), ["value"], name)
+            self.assertEqual(getattr(errors, name).__module__, "onenumber.errors")
 
     def test_they_are_made_with_one_argument(self):
         for name in NAMES:
