@@ -82,6 +82,60 @@ def multiply_all(fractions):
     return result
 
 
+def is_below(one, other):
+    """Whether one fraction is less than another one."""
+    return one[0] * other[1] < other[0] * one[1]
+
+
+def greatest(fractions):
+    """The greatest of a list of fractions that is not empty."""
+    best = fractions[0]
+    for amount in fractions:
+        if is_below(best, amount):
+            best = amount
+    return best
+
+
+def negative(amount):
+    return (-amount[0], amount[1])
+
+
+def least(fractions):
+    """The least of a list of fractions that is not empty."""
+    return negative(greatest([negative(amount) for amount in fractions]))
+
+
+def continued(wholes, last):
+    """The fraction last, to which each of some integers, the last one first, is added behind turning it over."""
+    top, bottom = last, 1
+    for whole in wholes[::-1]:
+        top, bottom = whole * top + bottom, top
+    return (top, bottom)
+
+
+def simplest_above(low, high):
+    """The fraction of the least bottom, and of these the least one, between low, from 0 on, and high, or no bound."""
+    wholes = []
+    while True:
+        whole = low[0] // low[1]
+        if high is None or is_below((whole + 1, 1), high):
+            return continued(wholes, whole + 1)
+        wholes.append(whole)
+        rest = (low[0] - whole * low[1], low[1])
+        low = (high[1], high[0] - whole * high[1])
+        # Behind the whole nothing may be left of the lower bound; turned over it is no bound.
+        high = None if rest[0] == 0 else (rest[1], rest[0])
+
+
+def simplest_between(low, high):
+    """A fraction of few digits above one fraction and below another, greater one; None is no bound."""
+    if (low is None or low[0] < 0) and (high is None or high[0] > 0):
+        return ZERO
+    if low is None or low[0] < 0:
+        return negative(simplest_above(negative(high), None if low is None else negative(low)))
+    return simplest_above(low, high)
+
+
 def fraction(top, bottom):
     """The fraction with the value of top divided by bottom."""
     require_whole(top)

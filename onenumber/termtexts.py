@@ -78,6 +78,10 @@ def list_words(terms):
     return words + [")"]
 
 
+def mix_text(mix):
+    return " ".join(["mix"] + list_words(mix))
+
+
 class Reader:
     """Reads words one by one, and raises BadText at the first one that does not go on."""
 
@@ -188,7 +192,7 @@ def format_term(term):
 def format_mix(mix):
     """The text of a mix."""
     require_mix(mix)
-    return " ".join(["mix"] + list_words(mix))
+    return mix_text(mix)
 
 
 def parse_term(text):

@@ -2,7 +2,19 @@ import random
 import unittest
 from fractions import Fraction
 
-from onenumber.amounts import compare, fraction, is_fraction, minus, over, plus, times
+from onenumber.amounts import (
+    compare,
+    fraction,
+    greatest,
+    is_below,
+    is_fraction,
+    least,
+    minus,
+    over,
+    plus,
+    simplest_between,
+    times,
+)
 from onenumber.errors import BadFraction
 from tests.values import ODD, as_amount, as_fraction, nested, random_fraction
 
@@ -117,6 +129,42 @@ class Arithmetic(unittest.TestCase):
                     with self.assertRaises(BadFraction) as caught:
                         function((1, 2), value)
                     self.assertIs(caught.exception.value, value)
+
+
+class Between(unittest.TestCase):
+    def test_greatest_and_least(self):
+        source = random.Random(15)
+        for _ in range(100):
+            amounts = [random_fraction(source, 5) for _ in range(source.randint(1, 6))]
+            values = [as_fraction(amount) for amount in amounts]
+            self.assertEqual((greatest(amounts), least(amounts)), (as_amount(max(values)), as_amount(min(values))))
+            self.assertIs(is_below(amounts[0], amounts[-1]), values[0] < values[-1])
+
+    def test_the_simplest_one(self):
+        source = random.Random(16)
+        for _ in range(500):
+            low, high = sorted([Fraction(source.randint(-30, 30), source.randint(1, 20)) for _ in range(2)])
+            if low < high:
+                bottom = 1
+                while True:
+                    tops = range(-30 * bottom, 30 * bottom + 1)
+                    inside = [Fraction(top, bottom) for top in tops if low < Fraction(top, bottom) < high]
+                    if inside:
+                        break
+                    bottom += 1
+                self.assertEqual(simplest_between(as_amount(low), as_amount(high)), as_amount(min(inside, key=abs)))
+
+    def test_without_bounds(self):
+        for low, high, right in ((None, None, (0, 1)), (None, (1, 2), (0, 1)), (None, (0, 1), (-1, 1)),
+                                 (None, (-7, 2), (-4, 1)), ((-1, 2), None, (0, 1)), ((0, 1), None, (1, 1)),
+                                 ((7, 2), None, (4, 1)), ((3, 1), None, (4, 1)), ((-1, 2), (1, 2), (0, 1))):
+            self.assertEqual(simplest_between(low, high), right, (low, high))
+
+    def test_few_digits_between_long_ones(self):
+        low, high = (3 ** 2000, 2 ** 3100), (3 ** 2000 + 1, 2 ** 3100)
+        found = simplest_between(low, high)
+        self.assertTrue(as_fraction(low) < as_fraction(found) < as_fraction(high))
+        self.assertLess(len(str(found[1])), 500)
 
 
 if __name__ == "__main__":

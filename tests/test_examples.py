@@ -4,18 +4,39 @@ import unittest
 
 from onenumber.algebra import blend, glue, side_by_side
 from onenumber.amounts import compare, fraction, minus, over
-from onenumber.errors import BadText
+from onenumber.companies import alike, counted, lots, worth_in
+from onenumber.dominance import between, is_worse_in, never_worse, worse_in
+from onenumber.errors import BadChoice, BadText
+from onenumber.floors import best_steps, course_worths, floor, floors, is_cover, is_floors
 from onenumber.frames import is_ring, is_witness, ring, witness
+from onenumber.ladderpapers import is_paper, paper
 from onenumber.ladders import chain, is_ladder, left, pays
+from onenumber.numbers import ladder_of, mix_ladder, numbers
 from onenumber.pairs import are_level, is_ahead, spread, total
+from onenumber.parting import is_parting, parting
 from onenumber.places import after, front, histories, places, step_places
+from onenumber.rules import front_numbers, rule_step, rule_walk, rule_worth
+from onenumber.states import size, states
 from onenumber.terms import is_toss, pair_of, parts, steps
 from onenumber.termtexts import format_term, parse_term
+from onenumber.ways import beaten_in, best_everywhere, best_in, ladder_of_ways, two_companies
+from onenumber.worths import beside, company_worth, ladder_worth, worth
 
 good, slow, join = ((4, 1), (1, 2)), ((1, 1), (1, 2)), ((-1, 1), (-1, 1))
-work, filt = ((1, 1), (1, 2)), ((-1, 10), (1, 2))
+work_pair, filt = ((1, 1), (1, 2)), ((-1, 10), (1, 2))
 tree = ("step", (3, 1), (((1, 2), ("end",)), ((1, 4), ("step", (-1, 1), ()))))
 two = (((4, 1), (1, 2)), ((1, 2), (1, 2)))
+late = ("step", (1, 1), (((1, 2), ("step", (9, 1), ())),))
+toss = ("step", (0, 1), (((1, 2), late), ((1, 2), ("end",))))
+work = ("step", (2, 1), (((1, 2), ("step", (4, 1), ())),))
+sure = ("step", (3, 1), (((1, 1), ("end",)),))
+costs = ("step", (-1, 1), (((1, 2), ("step", (1, 1), ())),))
+ONE = ("step", (3, 1), (((2, 1), ("step", (2, 1), ())),))
+TWO = ("step", (1, 1), (((2, 1), ("step", (2, 1), (((1, 2), ("end",)),))),))
+K = (((3, 1), (-1, 1)), ((4, 1), (2, 1)))
+TOSS = ("step", (0, 1), (((1, 2), ONE), ((1, 2), ONE)))
+PAYS, MORE = ("step", (1, 1), ()), ("step", (2, 1), ())
+RUNG = (((2, 1), (1, 1)),)
 
 
 class Examples(unittest.TestCase):
@@ -28,10 +49,11 @@ class Examples(unittest.TestCase):
         self.assertEqual(repr(told), "[True, False, True, ((3, 1), (-1, 2))]")
 
     def test_frames(self):
-        three = [join, work, ((-1, 1), (1, 1))]
-        self.assertEqual([ring([work, filt]), witness([join, work, filt]), is_ring(three, ring(three))], [None, None, True])
-        told = [is_witness([work, filt], ((0, 1), (1, 1))),
-                is_ring([work, ((-2, 1), (-1, 1))], ((0, (2, 1)), (1, (1, 1))))]
+        three = [join, work_pair, ((-1, 1), (1, 1))]
+        told = [ring([work_pair, filt]), witness([join, work_pair, filt]), is_ring(three, ring(three))]
+        self.assertEqual(told, [None, None, True])
+        told = [is_witness([work_pair, filt], ((0, 1), (1, 1))),
+                is_ring([work_pair, ((-2, 1), (-1, 1))], ((0, (2, 1)), (1, (1, 1))))]
         self.assertEqual(told, [True, True])
 
     def test_terms(self):
@@ -64,6 +86,84 @@ class Examples(unittest.TestCase):
         told = [side_by_side([two, (((1, 1), (1, 2)),)]), blend([((1, 2), two), ((1, 2), ())])]
         self.assertEqual(repr(told), "[(((4, 1), (1, 2)), ((1, 2), (1, 4)), ((1, 4), (1, 4))), "
                                      "(((2, 1), (1, 4)), ((1, 4), (1, 4)))]")
+
+    def test_numbers(self):
+        told = [ladder_of(late), numbers(late), ladder_of(toss), numbers(toss)[0]]
+        self.assertEqual(repr(told), "[(((11, 2), (1, 1)),), [((11, 2), (1, 1)), ((9, 1), (1, 1))], "
+                                     "(((11, 4), (1, 2)),), 'toss']")
+
+    def test_ladderpapers(self):
+        told = [paper(late), is_paper(late, paper(late)), is_paper(late, paper(toss))]
+        self.assertEqual(repr(told), "[[(((11, 2), (1, 1)),), (((9, 1), (1, 1)),)], True, False]")
+
+    def test_worths(self):
+        told = [mix_ladder((work,)), mix_ladder((work, sure)), worth((work, sure), "done")]
+        self.assertEqual(repr(told), "[(((4, 1), (1, 1)),), (((3, 1), (0, 1)), ((4, 1), (1, 1))), (7, 1)]")
+        told = [worth((costs,), "done"), worth((costs,), "free"), worth((costs, work), "free"), worth((costs, work), "done")]
+        self.assertEqual(repr(told), "[(-1, 2), (0, 1), (4, 1), (4, 1)]")
+        ladder = (((4, 1), (1, 1)),)
+        told = [ladder_worth(ladder, "free"), beside(ladder, (3, 1), (0, 1), "done"),
+                beside(ladder, (6, 1), (1, 2), "done"), company_worth((ladder, ladder), "done")]
+        self.assertEqual(repr(told), "[(4, 1), (4, 1), (8, 1), (4, 1)]")
+
+    def test_rules(self):
+        self.assertEqual(repr(front_numbers((work, sure), "done")), "[((0,), ((4, 1), (1, 1))), ((1,), ((3, 1), (0, 1)))]")
+        told = [rule_step((work, sure), "done"), rule_step((costs,), "free"), rule_step((costs,), "done"),
+                rule_worth((work, sure), "done")]
+        self.assertEqual(repr(told), "[(1,), None, (0,), (7, 1)]")
+        done, _, weight, paid = rule_walk((work, sure), "done", [0, 0])
+        self.assertEqual(repr([done, weight, paid]), "[[(1,), (0,), (0,)], (0, 1), (7, 1)]")
+        with self.assertRaises(BadChoice) as caught:
+            rule_walk((work, sure), "done", [0, 1])
+        self.assertEqual(caught.exception.value, 1)
+
+    def test_states(self):
+        both = ("all", (work, sure))
+        self.assertEqual([size((both,)), states((both,))[2] == (("all", (work, ("end",))),)], [4, True])
+        self.assertEqual([len(states((both,))), len(states((work, work))), size((work, work))], [4, 4, 4])
+
+    def test_floors(self):
+        mix = (work, sure)
+        self.assertEqual(repr([floor(mix, "done"), best_steps(mix, "done")[0], floors(mix, "done")]),
+                         "[(7, 1), [(1,)], [(7, 1), (7, 1), (4, 1), (4, 1)]]")
+        self.assertEqual(repr([floor((costs,), "done"), floor((costs,), "free"), best_steps((costs,), "free")[0]]),
+                         "[(-1, 2), (0, 1), [None]]")
+        high = [(9, 1)] * 4
+        told = [is_cover(mix, "done", high), is_floors(mix, "done", high), is_floors(mix, "done", floors(mix, "done"))]
+        self.assertEqual(told, [False, False, True])
+        doubles = ("step", (1, 1), (((2, 1), ("end",)),))
+        self.assertEqual(repr([floor((doubles, sure), "done"), course_worths((doubles,), "done", [(0,), None])]),
+                         "[(7, 1), [(1, 1), (0, 1)]]")
+
+    def test_companies(self):
+        told = [counted(ONE, "done") == K, worth_in(ONE, K, "done"), worth_in(TWO, K, "done"), worth_in(ONE, RUNG, "done")]
+        self.assertEqual(repr(told), "[True, (17, 1), (19, 1), (7, 1)]")
+        told = [alike(TOSS, ONE, "done"), alike(ONE, TWO, "free"), lots((ONE, TWO, TOSS), "done")]
+        self.assertEqual(repr(told), "[True, False, [[0, 2], [1]]]")
+
+    def test_parting(self):
+        told = [parting(ONE, TOSS, "done"), is_parting(PAYS, MORE, "done", ()),
+                is_parting(PAYS, MORE, "done", (((5, 1), (1, 1)),))]
+        self.assertEqual(told, [None, True, False])
+        told = [is_parting(ONE, TWO, "done", RUNG), is_parting(ONE, TWO, "done", (((1, 1), (1, 1)),))]
+        self.assertEqual(told, [False, True])
+
+    def test_dominance(self):
+        told = [never_worse(ONE, TWO, "done"), is_worse_in(ONE, TWO, "done", K), is_worse_in(ONE, TWO, "done", RUNG)]
+        self.assertEqual(told, [False, True, False])
+        told = [between(MORE, PAYS, "done"), between(ONE, TWO, "free"), never_worse(ONE, ONE, "done"),
+                worse_in(MORE, PAYS, "free")]
+        self.assertEqual(told, ["more", "neither", True, None])
+
+    def test_ways(self):
+        told = [best_in((ONE, TWO), (), "done"), best_in((ONE, TWO), K, "done"), best_in((ONE, TWO), RUNG, "done")]
+        self.assertEqual(told, [[0], [1], [0, 1]])
+        told = [best_everywhere((ONE, TWO), "done"), best_everywhere((PAYS, MORE, MORE), "done"),
+                ladder_of_ways((PAYS, MORE), "free")]
+        self.assertEqual(repr(told), "[[], [1, 2], (((2, 1), (1, 1)),)]")
+        told = [two_companies((PAYS, MORE), "done"), ladder_of_ways((ONE, TWO), "done"),
+                beaten_in((PAYS, MORE), 1, "done")]
+        self.assertEqual(told, [None, None, None])
 
 
 if __name__ == "__main__":

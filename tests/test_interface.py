@@ -51,14 +51,101 @@ FUNCTIONS = {
         "put_together": {"rungs": [PAIR]}, "glue": {"pair": PAIR, "rungs": [PAIR]},
         "side_by_side": {"ladders": [LADDER]}, "blend": {"shares": [(HALF, LADDER)]},
     },
+    "numbers": {"ladder_of": {"term": TREE}, "numbers": {"term": TREE}, "mix_ladder": {"mix": (TREE,)}},
+    "ladderpapers": {"paper": {"term": TREE}, "is_paper": {"term": END, "value": [()]}},
+    "worths": {
+        "ladder_worth": {"ladder": LADDER, "habit": "free"}, "worth": {"mix": (TREE,), "habit": "done"},
+        "company_worth": {"ladders": (LADDER,), "habit": "done"},
+        "beside": {"ladder": LADDER, "pay": (1, 2), "factor": (1, 3), "habit": "free"},
+    },
+    "rules": {
+        "front_numbers": {"mix": (TREE,), "habit": "done"}, "rule_step": {"mix": (TREE,), "habit": "done"},
+        "rule_walk": {"mix": (TREE,), "habit": "done", "choices": [0]}, "rule_worth": {"mix": (TREE,), "habit": "free"},
+    },
+    "states": {"size": {"mix": (TREE,)}, "states": {"mix": (TREE,)}},
+    "floors": {
+        "floors": {"mix": (TREE,), "habit": "done"}, "floor": {"mix": (TREE,), "habit": "done"},
+        "best_steps": {"mix": (TREE,), "habit": "free"},
+        "is_cover": {"mix": (LEAF,), "habit": "done", "value": [(1, 1)]},
+        "is_floors": {"mix": (LEAF,), "habit": "done", "value": [(1, 1)]},
+        "course_worths": {"mix": (TREE,), "habit": "free", "course": [(0,), None, (0,)]},
+        "best_course": {"mix": (TREE,), "habit": "free"},
+    },
+    "companies": {
+        "goes_with": {"terms": (TREE,), "company": LADDER, "habit": "free"},
+        "worth_in": {"term": TREE, "company": LADDER, "habit": "free"}, "paying": {"ladder": LADDER},
+        "counted": {"term": TREE, "habit": "free"}, "alike": {"one": TREE, "other": TREE, "habit": "done"},
+        "lots": {"terms": (TREE, END, TREE), "habit": "done"},
+    },
+    "parting": {
+        "parting": {"one": TREE, "other": LEAF, "habit": "done"},
+        "is_parting": {"one": TREE, "other": LEAF, "habit": "done", "value": ()},
+    },
+    "dominance": {
+        "never_worse": {"one": TREE, "other": LEAF, "habit": "done"},
+        "worse_in": {"one": TREE, "other": LEAF, "habit": "free"},
+        "is_worse_in": {"one": END, "other": LEAF, "habit": "done", "value": ()},
+        "between": {"one": TREE, "other": LEAF, "habit": "done"},
+    },
+    "ways": {
+        "best_in": {"ways": (TREE, LEAF), "company": LADDER, "habit": "done"},
+        "best_everywhere": {"ways": (TREE, LEAF), "habit": "done"},
+        "ladder_of_ways": {"ways": (TREE, LEAF), "habit": "free"},
+        "two_companies": {"ways": (TREE, LEAF), "habit": "free"},
+        "beaten_in": {"ways": (TREE, LEAF), "number": 1, "habit": "done"},
+    },
 }
 OWN_KIND = {("pairs", "total", "pairs"), ("ladders", "is_same_frame", "ladders"), ("algebra", "put_together", "rungs"),
-            ("algebra", "glue", "rungs"), ("algebra", "side_by_side", "ladders"), ("algebra", "blend", "shares")}
+            ("algebra", "glue", "rungs"), ("algebra", "side_by_side", "ladders"), ("algebra", "blend", "shares"),
+            ("rules", "rule_walk", "choices")}
 # What an error may be, by the function's file; places.py raises some for its terms, too.
 ERRORS = {
     "amounts": {"BadFraction"}, "pairs": {"BadPair", "BadFraction"}, "frames": {"BadPairs"}, "terms": {"BadTerm"},
     "places": {"BadTerm", "BadPlace", "BadMix", "TooMany"}, "termtexts": {"BadTerm", "BadMix", "BadText"},
     "ladders": {"BadLadder", "TooMany"}, "algebra": {"BadPair", "BadLadder", "TooMany", "NoFrame"},
+    "numbers": {"BadTerm", "BadMix", "NoFrame"}, "ladderpapers": {"BadTerm", "NoFrame"},
+    "worths": {"BadLadder", "BadMix", "BadLadders", "BadFraction", "BadHabit", "NoFrame"},
+    "rules": {"BadMix", "BadHabit", "NoFrame", "BadChoice"}, "states": {"BadMix", "TooMany"},
+    "floors": {"BadMix", "BadHabit", "TooMany", "BadCourse"},
+    "companies": {"BadTerms", "BadTerm", "BadLadder", "BadHabit", "NoFit", "NoCompany"},
+    "parting": {"BadTerm", "BadHabit", "NoFit"}, "dominance": {"BadTerm", "BadHabit", "NoFit"},
+    "ways": {"BadWays", "BadLadder", "BadHabit", "NoFit", "NoCompany", "BadNumber"},
+}
+# The errors of functions of several arguments, in their sequence: the argument, its error, and a wrong value.
+SEQUENCES = {
+    ("ladderpapers", "is_paper"): [("term", "BadTerm", "no")],
+    ("worths", "ladder_worth"): [("ladder", "BadLadder", 5), ("habit", "BadHabit", 6)],
+    ("worths", "worth"): [("mix", "BadMix", 5), ("habit", "BadHabit", 6)],
+    ("worths", "company_worth"): [("ladders", "BadLadders", 5), ("habit", "BadHabit", 6)],
+    ("worths", "beside"): [("ladder", "BadLadder", 5), ("pay", "BadFraction", 6), ("factor", "BadFraction", (-1, 2)),
+                           ("habit", "BadHabit", 7)],
+    ("rules", "front_numbers"): [("mix", "BadMix", 5), ("habit", "BadHabit", 6)],
+    ("rules", "rule_step"): [("mix", "BadMix", 5), ("habit", "BadHabit", 6)],
+    ("rules", "rule_walk"): [("mix", "BadMix", 5), ("habit", "BadHabit", 6)],
+    ("rules", "rule_worth"): [("mix", "BadMix", 5), ("habit", "BadHabit", 6)],
+    ("floors", "floors"): [("mix", "BadMix", 5), ("habit", "BadHabit", 6)],
+    ("floors", "floor"): [("mix", "BadMix", 5), ("habit", "BadHabit", 6)],
+    ("floors", "best_steps"): [("mix", "BadMix", 5), ("habit", "BadHabit", 6)],
+    ("floors", "is_cover"): [("mix", "BadMix", 5), ("habit", "BadHabit", 6)],
+    ("floors", "is_floors"): [("mix", "BadMix", 5), ("habit", "BadHabit", 6)],
+    ("floors", "course_worths"): [("mix", "BadMix", 5), ("habit", "BadHabit", 6), ("course", "BadCourse", 7)],
+    ("floors", "best_course"): [("mix", "BadMix", 5), ("habit", "BadHabit", 6)],
+    ("companies", "goes_with"): [("terms", "BadTerms", 5), ("company", "BadLadder", 6), ("habit", "BadHabit", 7)],
+    ("companies", "worth_in"): [("term", "BadTerm", 5), ("company", "BadLadder", 6), ("habit", "BadHabit", 7)],
+    ("companies", "counted"): [("term", "BadTerm", 5), ("habit", "BadHabit", 6)],
+    ("companies", "alike"): [("one", "BadTerm", 5), ("other", "BadTerm", 6), ("habit", "BadHabit", 7)],
+    ("companies", "lots"): [("terms", "BadTerms", 5), ("habit", "BadHabit", 6)],
+    ("parting", "parting"): [("one", "BadTerm", 5), ("other", "BadTerm", 6), ("habit", "BadHabit", 7)],
+    ("parting", "is_parting"): [("one", "BadTerm", 5), ("other", "BadTerm", 6), ("habit", "BadHabit", 7)],
+    ("dominance", "never_worse"): [("one", "BadTerm", 5), ("other", "BadTerm", 6), ("habit", "BadHabit", 7)],
+    ("dominance", "worse_in"): [("one", "BadTerm", 5), ("other", "BadTerm", 6), ("habit", "BadHabit", 7)],
+    ("dominance", "is_worse_in"): [("one", "BadTerm", 5), ("other", "BadTerm", 6), ("habit", "BadHabit", 7)],
+    ("dominance", "between"): [("one", "BadTerm", 5), ("other", "BadTerm", 6), ("habit", "BadHabit", 7)],
+    ("ways", "best_in"): [("ways", "BadWays", 5), ("company", "BadLadder", 6), ("habit", "BadHabit", 7)],
+    ("ways", "best_everywhere"): [("ways", "BadWays", 5), ("habit", "BadHabit", 6)],
+    ("ways", "ladder_of_ways"): [("ways", "BadWays", 5), ("habit", "BadHabit", 6)],
+    ("ways", "two_companies"): [("ways", "BadWays", 5), ("habit", "BadHabit", 6)],
+    ("ways", "beaten_in"): [("ways", "BadWays", 5), ("habit", "BadHabit", 6), ("number", "BadNumber", 7)],
 }
 
 
@@ -121,6 +208,14 @@ class Interface(unittest.TestCase):
             self.assertIn(told[1], (True, False), name)
             self.assertIsInstance(told[1], bool, name)
         self.assertEqual(outcome_of(lambda: function(**arguments)), told, name)
+
+    def test_the_error_named_first_is_raised(self):
+        for (file, name), sequence in SEQUENCES.items():
+            function = getattr(importlib.import_module(f"onenumber.{file}"), name)
+            for number in range(len(sequence)):
+                wrong = {argument: value for argument, _, value in sequence[number:]}
+                told = outcome_of(lambda: function(**{**FUNCTIONS[file][name], **wrong}))
+                self.assertEqual(told, ("raised", sequence[number][1], sequence[number][2]), name)
 
     def test_errors_are_mix_errors(self):
         for file in ERRORS:

@@ -5,7 +5,10 @@ from fractions import Fraction
 from onenumber.algebra import put_together
 from onenumber.errors import MixError
 from onenumber.ladders import is_ladder
-from onenumber.terms import is_term
+from onenumber.numbers import ladder_of
+from onenumber.states import size
+from onenumber.terms import is_mix, is_term
+from onenumber.worths import worth
 
 END = ("end",)
 ZERO, ONE, HALF = (0, 1), (1, 1), (1, 2)
@@ -130,3 +133,87 @@ def random_ladder(source, count, size=4):
         kind, ladder = outcome_of(put_together, pairs)[:2]
         if kind == "returned" and is_ladder(ladder):
             return ladder
+
+
+def random_framed_term(source, room=20):
+    """A random term that has a frame."""
+    while True:
+        term = random_term(source, room)
+        if outcome_of(ladder_of, term)[0] == "returned":
+            return term
+
+
+def random_fitting_mix(source, habit, room=12, most=3):
+    """A random mix of a size of at most 400 that fits a habit."""
+    while True:
+        mix = tuple([random_term(source, room) for _ in range(source.randint(1, most))])
+        if is_mix(mix) and size(mix) <= 400 and outcome_of(worth, mix, habit)[0] == "returned":
+            return mix
+
+
+def other_kinds(value):
+    """Values that are near a value, but of another kind."""
+    if isinstance(value, bool):
+        return [int(value), None]
+    if isinstance(value, int):
+        return [str(value)] + ([bool(value)] if value in (0, 1) else [])
+    if isinstance(value, tuple):
+        return [list(value), (value,), None]
+    if isinstance(value, list):
+        return [tuple(value), [value], {number: entry for number, entry in enumerate(value)}]
+    return [(value,), 0, None]
+
+
+def near(value):
+    """The list of the values that come of one by a change at one place of it: other kinds, numbers and entries."""
+    found = other_kinds(value)
+    if isinstance(value, int):
+        return found + [value + 1, -value - 1]
+    if not isinstance(value, (tuple, list)):
+        return found
+    kind = tuple if isinstance(value, tuple) else list
+    entries = list(value)
+    for number, entry in enumerate(entries):
+        found.append(kind(entries[:number] + entries[number + 1:]))
+        found.append(kind(entries[:number] + [entry] + entries[number:]))
+        if number and entries[number - 1] != entry:
+            found.append(kind(entries[:number - 1] + [entry, entries[number - 1]] + entries[number + 1:]))
+        found.extend([kind(entries[:number] + [other] + entries[number + 1:]) for other in near(entry)])
+    return found
+
+
+def small_ladder(source, count, total=None):
+    """A random ladder of few rungs with falls of all signs, by will with a sum of pays that is told."""
+    while True:
+        pairs = [((source.randint(-4, 4), 1), (source.randint(-2, 2), 1)) for _ in range(source.randint(1, count))]
+        if total is not None:
+            pairs.append(((total - sum([pay for (pay, _), _ in pairs]), 1), (source.randint(-1, 2), 1)))
+        kind, ladder = outcome_of(put_together, pairs)[:2]
+        if kind == "returned" and is_ladder(ladder):
+            return ladder
+
+
+def grid_of_companies():
+    """Companies of at most two rungs: single rungs, and pairs of one that leaves more and one that leaves nothing."""
+    found = [()]
+    for pay in range(-8, 9):
+        found.append((((pay, 2) if pay & 1 else (pay // 2, 1), ONE),))
+        for often in (1, 30):
+            first = (as_amount(Fraction(pay * often, 2)), (-often, 1))
+            found.append((first,))
+            for other in range(-8, 9):
+                second = (as_amount(Fraction(other * (often + 1), 2)), (often + 1, 1))
+                found.append((first, second))
+    return [company for company in found if is_ladder(company)]
+
+
+BIG = 10 ** 12 - 1
+
+
+def long_chain(source, count, last):
+    """A chain of so many steps with fractions of twelve digits, all falls above 0."""
+    term = last
+    for _ in range(count):
+        weight = Fraction(source.randint(BIG // 2, BIG), BIG + 12)
+        term = ("step", as_amount(Fraction(source.randint(1, BIG), source.randint(1, BIG))), ((as_amount(weight), term),))
+    return term
