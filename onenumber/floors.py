@@ -21,9 +21,13 @@ def value_of(move, worths):
     return add_all([pay] + [multiply(weight, worths[number]) for weight, number in outcomes])
 
 
+def count_of_steps(state):
+    return sum([len(all_steps(term)) for term in state])
+
+
 def few_steps_first(states):
     """The numbers of the states, so that those behind a state come ahead of it."""
-    counts = [sum(len(all_steps(term)) for term in state) for state in states]
+    counts = [count_of_steps(state) for state in states]
     return sorted(range(len(states)), key=lambda number: counts[number])
 
 
