@@ -5,7 +5,7 @@ The functions below the checks take any number of rungs and pairs; those of the 
 
 from onenumber.algebra import joined
 from onenumber.errors import BadTerms, NoCompany, NoFit
-from onenumber.frames import find_ring
+from onenumber.frames import has_frame
 from onenumber.ladders import require_ladder
 from onenumber.numbers import ladder_of_term, pairs_for_frame
 from onenumber.terms import is_term, require_term
@@ -16,7 +16,7 @@ MOST_TERMS_TOGETHER = 6
 
 def go_with(terms, company, habit):
     """Whether terms go with a company by a habit."""
-    return find_ring(with_leaving(pairs_for_frame(terms) + list(company), habit)) is None
+    return has_frame(with_leaving(pairs_for_frame(terms) + list(company), habit))
 
 
 def worth_in_company(ladder, company, habit):

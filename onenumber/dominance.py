@@ -8,7 +8,7 @@ what there was, often enough, one with a fall below 0 and behind it one with a f
 
 from onenumber.amounts import ONE, ZERO, add, divide, greatest, is_below, least, negative, simplest_between, subtract
 from onenumber.companies import alike, counted_ladder, require_two_terms
-from onenumber.frames import find_ring
+from onenumber.frames import has_frame
 from onenumber.ladders import sum_of_pays
 from onenumber.pairs import multiply_pair
 from onenumber.parting import (
@@ -115,7 +115,7 @@ def company_below(one, other, pairs, habit):
     if one == other:
         return None
     found = shortest([one_rung_below(cell, line, gap) for cell, line in with_lines(one, other, pairs, habit)])
-    if found is not None or find_ring(pairs + [STEADY]) is not None:
+    if found is not None or not has_frame(pairs + [STEADY]):
         return found
     lined = with_lines(one, other, pairs + [STEADY], habit)
     firsts = [entry for entry in lined if entry[0][0] < 0]

@@ -3,9 +3,9 @@
 The functions below the checks take any number of pairs; those of the interface take at most 80.
 """
 
-from math import gcd
+from math import gcd, lcm
 
-from onenumber.amounts import ONE, ZERO, divide, is_above_zero, is_whole, multiply, subtract
+from onenumber.amounts import ONE, ZERO, is_above_zero, is_whole, lowest, multiply, subtract
 from onenumber.errors import BadPairs, NoFrame
 from onenumber.pairs import NOTHING, add_pairs, arrow, is_pair, multiply_pair, reach, turn
 
@@ -42,11 +42,21 @@ def closing(arrows, first, last, number):
     return []
 
 
+def earliest(arrows, before, number):
+    """The numbers of a ring of three with this arrow, of the earliest ones before it on both sides of it."""
+    here = arrows[number]
+    one_side = [other for other in before if turn(arrows[other], here) < 0]
+    other_side = [other for other in before if turn(here, arrows[other]) < 0]
+    return [one_side[0], other_side[0], number]
+
+
 def outermost(arrows, sequence):
     """Goes through arrows in a sequence: (the numbers of a ring, None), or ([], the foremost and the hindmost)."""
     first = last = sequence[0]
-    for number in sequence:
+    for position, number in enumerate(sequence):
         around = closing(arrows, first, last, number)
+        if len(around) == 3:
+            around = earliest(arrows, sequence[:position], number)
         if around:
             return (around, None)
         if turn(arrows[first], arrows[number]) < 0:
@@ -87,19 +97,34 @@ def shorter(shares):
     return [(top // above, bottom // below) for top, bottom in shares]
 
 
-def stretch(pair):
-    """How often a pair, not ((0, 1), (0, 1)), has its arrow."""
-    side = 1 if pair[0] == ZERO else 0
-    return divide(pair[side], (arrow(pair)[side], 1))
+def as_integers(shares):
+    """Integers without a common divisor, to one another as some fractions are."""
+    bottom = 1
+    for _, below in shares:
+        bottom = lcm(bottom, below)
+    tops = [top * (bottom // below) for top, below in shares]
+    common = divisor(tops)
+    return [top // common for top in tops]
+
+
+def products(factors):
+    """The products of all choices of some integers, those that are 1 left out."""
+    found = [1]
+    for factor in factors:
+        if factor > 1:
+            found.extend([number * factor for number in list(found)])
+    return found
 
 
 def shares_of_three(one, other, third):
     """Shares above 0 by which the three pairs of a ring come to nothing."""
-    turned = ((one, other, third), (other, third, one), (third, one, other))
-    by_amounts = [turning(low, high) for _, low, high in turned]
-    # Where both fractions of a pair have a long weight in common, its arrow is short.
-    by_arrows = [divide((abs(turn(arrow(low), arrow(high))), 1), stretch(pair)) for pair, low, high in turned]
-    return min([shorter(by_amounts), shorter(by_arrows)], key=length)
+    first, second, last = as_integers([turning(other, third), turning(third, one), turning(one, other)])
+    # What two of the integers, or an integer and its pair's bottoms, have in common is put in the other shares' bottoms
+    # where they are shorter so.
+    factors = [gcd(first, second), gcd(first, last), gcd(second, last), gcd(first, lcm(one[0][1], one[1][1])),
+               gcd(second, lcm(other[0][1], other[1][1])), gcd(last, lcm(third[0][1], third[1][1]))]
+    found = [[lowest(top, bottom) for top in (first, second, last)] for bottom in products(factors)]
+    return min(found, key=length)
 
 
 def shares_of(pairs):
@@ -111,6 +136,11 @@ def shares_of(pairs):
         side = 1 if one[0] == ZERO else 0
         return shorter([distance(other[side]), distance(one[side])])
     return shares_of_three(pairs[0], pairs[1], pairs[2])
+
+
+def has_frame(pairs):
+    """Whether a list or tuple of pairs has a frame."""
+    return not pairs or not outermost_of(pairs)[0]
 
 
 def find_ring(pairs):

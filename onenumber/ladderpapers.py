@@ -1,6 +1,6 @@
 """Papers: the ladders of all parts of a term, and the judge of them."""
 
-from onenumber.frames import find_ring, require_frame
+from onenumber.frames import has_frame, require_frame
 from onenumber.ladders import is_ladder
 from onenumber.numbers import ladders_of_parts, pairs_for_frame
 from onenumber.terms import require_term
@@ -16,7 +16,7 @@ def paper(term):
 def is_paper(term, value):
     """Whether any value is the right paper of a term."""
     require_term(term)
-    if not isinstance(value, list) or find_ring(pairs_for_frame([term])) is not None:
+    if not isinstance(value, list) or not has_frame(pairs_for_frame([term])):
         return False
     # A ladder follows from those beneath it in one way, and that of a part without parts from nothing.
     if value != ladders_of_parts(term):

@@ -2,7 +2,7 @@
 
 from onenumber.amounts import ONE, add_all, divide, subtract
 from onenumber.errors import BadLadder, TooMany
-from onenumber.frames import find_ring
+from onenumber.frames import has_frame
 from onenumber.pairs import NOTHING, is_pair, turn_of_pairs
 from onenumber.terms import END, MOST_STEPS
 
@@ -37,7 +37,7 @@ def is_ladder(value):
         return False
     if not all(turn_of_pairs(rung, after) > 0 for rung, after in zip(value, value[1:])):
         return False
-    return find_ring(value) is None
+    return has_frame(value)
 
 
 def require_ladder(value):
@@ -94,4 +94,4 @@ def chain(ladder):
 def is_same_frame(ladders):
     """Whether the rungs of a list or tuple of ladders have a frame together."""
     require_ladders(ladders)
-    return find_ring(all_rungs(ladders)) is None
+    return has_frame(all_rungs(ladders))

@@ -8,7 +8,7 @@ of few digits may be taken from there.
 
 from onenumber.amounts import ZERO, add, add_all, divide, is_below, multiply, negative, simplest_between, subtract
 from onenumber.companies import counted_ladder, go_with, require_two_terms, worth_in_company
-from onenumber.frames import by_ahead, find_ring, length, outermost_of
+from onenumber.frames import by_ahead, has_frame, length, outermost_of
 from onenumber.ladders import is_ladder, sum_of_pays
 from onenumber.numbers import pairs_for_frame
 from onenumber.pairs import turn_of_pairs
@@ -45,7 +45,7 @@ def is_open(rung, edges, habit):
     """Whether a rung may be in a company that goes with pairs of these edges, and counts there."""
     if habit == FREE and rung[0][0] <= 0:
         return False
-    return find_ring(edges + [rung]) is None
+    return has_frame(edges + [rung])
 
 
 def cells(ladders, pairs, habit):

@@ -172,7 +172,9 @@ class Digits(unittest.TestCase):
         bottom, top = 10 ** 149 + 3, 10 ** 99 + 7
         for pairs in ([((1, bottom), (2, bottom)), ((-3, bottom), (1, bottom)), ((1, bottom), (-4, bottom))],
                       [((top, 1), (2 * top, 1)), ((-3 * top, 1), (top, 1)), ((top, 1), (-4 * top, 1))],
-                      [((top, bottom), (0, 1)), ((-top, bottom), (top, bottom)), ((-top, bottom), (-top, bottom))]):
+                      [((top, bottom), (0, 1)), ((-top, bottom), (top, bottom)), ((-top, bottom), (-top, bottom))],
+                      [((top, 1), (0, 1)), ((-3 * top, 1), (0, 1))], [((0, 1), (1, bottom)), ((0, 1), (-7, bottom))],
+                      [((top, bottom), (2 * top, bottom)), ((-3 * top, bottom), (-6 * top, bottom))]):
             self.judge(pairs)
             self.assertLessEqual(digits([share for _, share in ring(pairs)]), 3)
 
@@ -182,6 +184,18 @@ class Digits(unittest.TestCase):
             pairs = [random_pair(source, 10 ** 12) for _ in range(3)]
             self.judge([spread(pair, random_fraction(source, 10 ** 200)) for pair in pairs])
             self.judge([spread(pair, random_fraction(source, 10 ** 200)) for pair in (WORK, JOIN, EAST)])
+
+    def test_the_short_ones_of_a_ring(self):
+        # Each of the long ones is further out than the short ones, but a ring is of these.
+        top = 10 ** 500 + 9
+        long = [((top, top + 2), (-7, 2)), ((-top, top + 2), (-7, 3))]
+        short = [((1, 1), (-1, 1)), ((-1, 1), (-1, 1)), ((1, 9), (1, 1))]
+        for pairs in (long + short, short + long, short[:2] + long + short[2:]):
+            self.judge(pairs)
+            self.assertEqual(sorted([pairs[number] for number, _ in ring(pairs)]), sorted(short))
+        further = [((3, 1), (-1, 1)), ((-3, 1), (-1, 1)), ((6000001, 1), (-10 ** 6, 1)), ((-6000001, 1), (-10 ** 6, 1)),
+                   ((1, 10 ** 9), (10 ** 9, 1))]
+        self.assertEqual([number for number, _ in ring(further)], [0, 1, 4])
 
     def test_opposite_long_pairs(self):
         top, bottom, other = 10 ** 350 + 1, 10 ** 349 + 7, 10 ** 348 + 9

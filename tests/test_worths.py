@@ -1,5 +1,6 @@
 import random
 import unittest
+from fractions import Fraction
 
 from onenumber.algebra import side_by_side
 from onenumber.errors import BadFraction, BadHabit, BadLadder, BadLadders, BadMix, NoFrame
@@ -10,6 +11,7 @@ from onenumber.numbers import ladder_of, mix_ladder
 from onenumber.terms import is_mix, pairs_of
 from onenumber.worths import beside, company_worth, ladder_worth, worth
 from tests.values import (
+    BIG,
     END,
     HALF,
     LEAF,
@@ -17,6 +19,9 @@ from tests.values import (
     ODD,
     ONE,
     ZERO,
+    as_amount,
+    as_fraction,
+    digits,
     outcome_of,
     random_fitting_mix,
     random_fraction,
@@ -115,6 +120,34 @@ class Worths(unittest.TestCase):
         against = (((-1, 1), (-1, 100)),)
         self.assertIn(256 - 64, [number for number, _ in self.told(NoFrame, company_worth, (long, long, long, against),
                                                                    "done")])
+
+    def test_rings_of_long_ladders(self):
+        # Their rungs have hundreds of digits, and so do the shares; but no more than 400.
+        source = random.Random(126)
+
+        def amount():
+            return as_amount(Fraction(source.randint(1, BIG) * source.choice([1, -1]), source.randint(1, BIG)))
+
+        def tilted(count):
+            term = END
+            while count:
+                pay, weight = amount(), amount()
+                if 0 < weight[0] and as_fraction(pay) > 3 - 3 * as_fraction(weight):
+                    term, count = ("step", pay, ((weight, term),)), count - 1
+            return term
+
+        longest = 0
+        for _ in range(60):
+            mix = source.choice([(tilted(8), tilted(8)), (tilted(15), tilted(1))])
+            ladders = tuple([ladder_of(term) for term in mix])
+            for function, value, rungs in ((ladder_worth, mix_ladder(mix), mix_ladder(mix)),
+                                           (company_worth, ladders, ladders[0] + ladders[1])):
+                told = outcome_of(function, value, "free")
+                if told[0] == "raised":
+                    self.assertTrue(is_ring([*rungs, LEAVING], told[2]))
+                    longest = max(longest, digits([share for _, share in told[2]]))
+        self.assertGreater(longest, 200)
+        self.assertLessEqual(longest, 400)
 
     def test_beside(self):
         source = random.Random(124)
