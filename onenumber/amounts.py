@@ -16,6 +16,11 @@ def is_whole(value):
     return isinstance(value, int) and not isinstance(value, bool)
 
 
+def is_number_below(value, count):
+    """Whether any value is an integer from 0 on that is less than count."""
+    return is_whole(value) and 0 <= value < count
+
+
 def is_fraction(value):
     """Whether any value is a fraction."""
     if not isinstance(value, tuple) or len(value) != 2:
@@ -29,6 +34,16 @@ def is_fraction(value):
 def is_above_zero(value):
     """Whether any value is a fraction above 0."""
     return is_fraction(value) and value[0] > 0
+
+
+def is_from_zero(value):
+    """Whether any value is a fraction that is not below 0."""
+    return is_fraction(value) and value[0] >= 0
+
+
+def is_proper(value):
+    """Whether any value is a fraction above 0 and below 1."""
+    return is_fraction(value) and 0 < value[0] < value[1]
 
 
 def require_fraction(value):

@@ -3,7 +3,7 @@
 The functions below the checks trust that they are handed a mix that fits the habit; those of the interface look first.
 """
 
-from onenumber.amounts import ONE, ZERO, add, is_whole, multiply
+from onenumber.amounts import ONE, ZERO, add, is_number_below, multiply
 from onenumber.errors import BadChoice
 from onenumber.numbers import TOSS, ladder_of_term, number_of
 from onenumber.pairs import turn_of_pairs
@@ -54,7 +54,7 @@ def worth_by_rule(mix, habit):
 
 def require_choice(value, step, position):
     """Raises BadChoice for any value that is no number of an outcome of the step that is done then, or of none."""
-    if not is_whole(value) or step is None or not 0 <= value < len(step[1][2]):
+    if step is None or not is_number_below(value, len(step[1][2])):
         raise BadChoice(position)
 
 

@@ -1,7 +1,7 @@
 """Ways: terms of which one is picked; which of them are best in a company, and in every one."""
 
 from onenumber.algebra import gathered
-from onenumber.amounts import ONE, ZERO, divide, greatest, is_below, is_whole, least, simplest_between, subtract
+from onenumber.amounts import ONE, ZERO, divide, greatest, is_below, is_number_below, least, simplest_between, subtract
 from onenumber.companies import counted_ladder, go_with, require_fit_together, worth_in_company
 from onenumber.dominance import company_below
 from onenumber.errors import BadNumber, BadWays, NoCompany
@@ -119,7 +119,7 @@ def two_companies(ways, habit):
 
 def require_number(value, ways):
     """Raises BadNumber for any value that is no number of a way."""
-    if not is_whole(value) or not 0 <= value < len(ways):
+    if not is_number_below(value, len(ways)):
         raise BadNumber(value)
 
 

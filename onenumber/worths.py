@@ -4,7 +4,7 @@ The functions below the checks trust that there is a frame; those of the interfa
 """
 
 from onenumber.algebra import joined
-from onenumber.amounts import ONE, is_fraction, require_fraction, subtract
+from onenumber.amounts import ONE, is_from_zero, require_fraction, subtract
 from onenumber.errors import BadFraction, BadHabit, BadLadders
 from onenumber.frames import require_frame
 from onenumber.ladders import all_rungs, is_ladder, require_ladder, sum_of_pays
@@ -90,7 +90,7 @@ def company_worth(ladders, habit):
 
 def require_factor(value):
     """Raises BadFraction for any value that is no fraction from 0 on."""
-    if not is_fraction(value) or value[0] < 0:
+    if not is_from_zero(value):
         raise BadFraction(value)
 
 

@@ -4,21 +4,26 @@ import unittest
 
 from onenumber.algebra import blend, glue, side_by_side
 from onenumber.amounts import compare, fraction, minus, over
+from onenumber.boxes import best_moves, boxes_worth, reserve, worth_of
 from onenumber.companies import alike, counted, lots, worth_in
 from onenumber.dominance import between, is_worse_in, never_worse, worse_in
 from onenumber.errors import BadChoice, BadText
 from onenumber.floors import best_steps, course_worths, floor, floors, is_cover, is_floors
+from onenumber.forests import best_order, best_worth, forest_term, is_right_cut, order_worth, right_cut
 from onenumber.frames import is_ring, is_witness, ring, witness
+from onenumber.joins import hung, least_cost, least_row, row_cost
 from onenumber.ladderpapers import is_paper, paper
 from onenumber.ladders import chain, is_ladder, left, pays
 from onenumber.numbers import ladder_of, mix_ladder, numbers
 from onenumber.pairs import are_level, is_ahead, spread, total
 from onenumber.parting import is_parting, parting
 from onenumber.places import after, front, histories, places, step_places
+from onenumber.projects import best_plan, falling, next_projects, plan_worth, project_term, yard_worth
 from onenumber.rules import front_numbers, rule_step, rule_walk, rule_worth
 from onenumber.states import size, states
 from onenumber.terms import is_toss, pair_of, parts, steps
 from onenumber.termtexts import format_term, parse_term
+from onenumber.waypapers import best_lists, is_way_paper, way_paper
 from onenumber.ways import beaten_in, best_everywhere, best_in, ladder_of_ways, two_companies
 from onenumber.worths import beside, company_worth, ladder_worth, worth
 
@@ -37,6 +42,11 @@ K = (((3, 1), (-1, 1)), ((4, 1), (2, 1)))
 TOSS = ("step", (0, 1), (((1, 2), ONE), ((1, 2), ONE)))
 PAYS, MORE = ("step", (1, 1), ()), ("step", (2, 1), ())
 RUNG = (((2, 1), (1, 1)),)
+half, one = (1, 2), (1, 1)
+forest = ((None, (-1, 1), half), (0, (4, 1), half), (None, one, half))
+tables = (((10, 1), (20, 1), (5, 1)), ((0, 1, (1, 10)), (1, 2, (1, 5))))
+first, second = ((1, 1), (((1, 2), (6, 1)), ((1, 2), (0, 1)))), ((1, 1), (((1, 4), (8, 1)), ((3, 4), (2, 1))))
+yard = ((1, 2), (((1, 1), (6, 1)), ((2, 1), (1, 1)), ((-1, 1), (3, 1))))
 
 
 class Examples(unittest.TestCase):
@@ -164,6 +174,43 @@ class Examples(unittest.TestCase):
         told = [two_companies((PAYS, MORE), "done"), ladder_of_ways((ONE, TWO), "done"),
                 beaten_in((PAYS, MORE), 1, "done")]
         self.assertEqual(told, [None, None, None])
+
+    def test_waypapers(self):
+        told = [way_paper((PAYS, MORE), "done"), is_way_paper((ONE, TWO), "done", ("two", (), K)),
+                is_way_paper((ONE, TWO), "done", ("two", (), RUNG))]
+        self.assertEqual(repr(told), "[('one', 1), True, False]")
+        told = [is_way_paper((ONE, TWO), "done", ("one", 0)), best_lists((ONE, TWO), [(), K], "free")]
+        self.assertEqual(repr(told), "[False, [[0], [1]]]")
+
+    def test_forests(self):
+        told = [order_worth(forest, [0, 1, 2]), order_worth(forest, [2, 0, 1]), best_order(forest), best_worth(forest)]
+        self.assertEqual(repr(told), "[(5, 4), (3, 2), [2, 0, 1], (3, 2)]")
+        self.assertEqual(repr(forest_term(forest[:2])),
+                         "('step', (-1, 1), (((1, 2), ('step', (4, 1), (((1, 2), ('end',)),))),))")
+        self.assertIs(is_right_cut(forest, right_cut(forest)), True)
+
+    def test_joins(self):
+        told = [row_cost(tables, [0, 1, 2]), row_cost(tables, [2, 1, 0]), row_cost(tables, [1, 0, 2]), least_cost(tables)]
+        self.assertEqual(repr(told), "[(40, 1), (40, 1), (40, 1), (40, 1)]")
+        self.assertEqual(repr(hung(tables, 0)), "(((None, (-2, 1), (2, 1)), (0, (-1, 1), (1, 1))), [1, 2])")
+        self.assertEqual(row_cost(tables, least_row(tables)), (40, 1))
+
+    def test_boxes(self):
+        told = [reserve(first), reserve(second), boxes_worth((first,)), boxes_worth((first, second))]
+        self.assertEqual(repr(told), "[(4, 1), (4, 1), (2, 1), (13, 4)]")
+        told = [best_moves((first, second), (None, None)), best_moves((first, second), (0, None)),
+                best_moves((first, second), (1, None)), worth_of((first, second), (1, None))]
+        self.assertEqual(repr(told), "[[('open', 0), ('open', 1)], [('take', 0)], [('open', 1)], (5, 2)]")
+
+    def test_projects(self):
+        self.assertEqual(repr([falling((1, 2), project) for project in yard[1]]),
+                         "[[(8, 3), (8, 3)], [(2, 1), (1, 1)], [(1, 3), (1, 3)]]")
+        told = [plan_worth(yard, [0, 0, 1, 1]), plan_worth(yard, [1, 0, 0, 1]), yard_worth(yard), best_plan(yard)]
+        self.assertEqual(repr(told), "[(37, 8), (33, 8), (149, 32), [0, 0, 1, 1, 2, 2]]")
+        told = [next_projects(yard, (0, 0, 0)), next_projects(yard, (1, 0, 0)), next_projects(yard, (2, 2, 2))]
+        self.assertEqual(repr(told), "[[0], [0], []]")
+        self.assertEqual(repr(project_term((1, 2), ((5, 1), (7, 1)))),
+                         "('step', (5, 1), (((1, 2), ('step', (7, 1), (((1, 2), ('end',)),))),))")
 
 
 if __name__ == "__main__":

@@ -11,6 +11,10 @@ from tests.values import END, HALF, LEAF, ODD, outcome_of
 PAIR = ((1, 1), (1, 2))
 TREE = ("step", (3, 1), ((HALF, END), ((1, 4), LEAF)))
 LADDER = (((4, 1), (1, 2)), ((1, 2), (1, 2)))
+FOREST = ((None, (2, 1), HALF), (0, (1, 1), HALF))
+JOIN = (((2, 1), (3, 1)), ((0, 1, HALF),))
+BOX = ((1, 1), ((HALF, (6, 1)), (HALF, (0, 1))))
+YARD = (HALF, (((2, 1), (1, 2)), ((1, 1),)))
 
 # For each function: its arguments by name, right ones, and which errors it may raise for any value.
 # An argument for whose kind no error is told is in OWN_KIND: only its entries may be any value.
@@ -94,10 +98,38 @@ FUNCTIONS = {
         "two_companies": {"ways": (TREE, LEAF), "habit": "free"},
         "beaten_in": {"ways": (TREE, LEAF), "number": 1, "habit": "done"},
     },
+    "waypapers": {
+        "way_paper": {"ways": (TREE, LEAF), "habit": "done"},
+        "is_way_paper": {"ways": (TREE, LEAF), "habit": "done", "value": ("one", 0)},
+        "best_lists": {"ways": (TREE, LEAF), "companies": [LADDER, ()], "habit": "done"},
+    },
+    "forests": {
+        "is_forest": {"value": FOREST}, "forest_term": {"forest": FOREST},
+        "is_order": {"forest": FOREST, "value": [0, 1]}, "order_worth": {"forest": FOREST, "order": [0, 1]},
+        "best_worth": {"forest": FOREST}, "best_order": {"forest": FOREST}, "right_cut": {"forest": FOREST},
+        "is_right_cut": {"forest": FOREST, "value": [[0], [1]]},
+    },
+    "joins": {
+        "is_join": {"value": JOIN}, "is_row": {"join": JOIN, "value": [0, 1]}, "row_cost": {"join": JOIN, "row": [0, 1]},
+        "hung": {"join": JOIN, "first": 1}, "join_term": {"join": JOIN, "first": 1}, "least_cost": {"join": JOIN},
+        "least_row": {"join": JOIN}, "least_from": {"join": JOIN, "first": 1},
+    },
+    "boxes": {
+        "is_box": {"value": BOX}, "is_boxes": {"value": (BOX, BOX)}, "box_term": {"box": BOX}, "reserve": {"box": BOX},
+        "boxes_worth": {"boxes": (BOX, BOX)}, "best_moves": {"boxes": (BOX, BOX), "seen": (None, 0)},
+        "worth_of": {"boxes": (BOX, BOX), "seen": (None, 0)},
+    },
+    "projects": {
+        "is_project": {"value": ((2, 1), (1, 2))}, "is_yard": {"value": YARD},
+        "project_term": {"share": HALF, "project": ((2, 1), (1, 2))},
+        "falling": {"share": HALF, "project": ((2, 1), (1, 2))}, "yard_terms": {"yard": YARD}, "yard_worth": {"yard": YARD},
+        "best_plan": {"yard": YARD}, "is_plan": {"yard": YARD, "value": [0, 1]}, "plan_worth": {"yard": YARD, "plan": [0, 1]},
+        "next_projects": {"yard": YARD, "worked": (1, 0)},
+    },
 }
 OWN_KIND = {("pairs", "total", "pairs"), ("ladders", "is_same_frame", "ladders"), ("algebra", "put_together", "rungs"),
             ("algebra", "glue", "rungs"), ("algebra", "side_by_side", "ladders"), ("algebra", "blend", "shares"),
-            ("rules", "rule_walk", "choices")}
+            ("rules", "rule_walk", "choices"), ("waypapers", "best_lists", "companies")}
 # What an error may be, by the function's file; places.py raises some for its terms, too.
 ERRORS = {
     "amounts": {"BadFraction"}, "pairs": {"BadPair", "BadFraction"}, "frames": {"BadPairs"}, "terms": {"BadTerm"},
@@ -110,6 +142,9 @@ ERRORS = {
     "companies": {"BadTerms", "BadTerm", "BadLadder", "BadHabit", "NoFit", "NoCompany"},
     "parting": {"BadTerm", "BadHabit", "NoFit"}, "dominance": {"BadTerm", "BadHabit", "NoFit"},
     "ways": {"BadWays", "BadLadder", "BadHabit", "NoFit", "NoCompany", "BadNumber"},
+    "waypapers": {"BadWays", "BadLadder", "BadHabit", "NoFit", "NoCompany"}, "forests": {"BadForest", "BadOrder", "NoFrame"},
+    "joins": {"BadJoin", "BadRow", "BadTable"}, "boxes": {"BadBox", "BadBoxes", "BadSeen"},
+    "projects": {"BadShare", "BadProject", "BadYard", "BadPlan", "BadWorked"},
 }
 # The errors of functions of several arguments, in their sequence: the argument, its error, and a wrong value.
 SEQUENCES = {
@@ -146,6 +181,20 @@ SEQUENCES = {
     ("ways", "ladder_of_ways"): [("ways", "BadWays", 5), ("habit", "BadHabit", 6)],
     ("ways", "two_companies"): [("ways", "BadWays", 5), ("habit", "BadHabit", 6)],
     ("ways", "beaten_in"): [("ways", "BadWays", 5), ("habit", "BadHabit", 6), ("number", "BadNumber", 7)],
+    ("waypapers", "way_paper"): [("ways", "BadWays", 5), ("habit", "BadHabit", 6)],
+    ("waypapers", "is_way_paper"): [("ways", "BadWays", 5), ("habit", "BadHabit", 6)],
+    ("waypapers", "best_lists"): [("ways", "BadWays", 5), ("habit", "BadHabit", 6)],
+    ("forests", "order_worth"): [("forest", "BadForest", 5), ("order", "BadOrder", 6)],
+    ("joins", "row_cost"): [("join", "BadJoin", 5), ("row", "BadRow", 6)],
+    ("joins", "hung"): [("join", "BadJoin", 5), ("first", "BadTable", 6)],
+    ("joins", "join_term"): [("join", "BadJoin", 5), ("first", "BadTable", 6)],
+    ("joins", "least_from"): [("join", "BadJoin", 5), ("first", "BadTable", 6)],
+    ("boxes", "best_moves"): [("boxes", "BadBoxes", 5), ("seen", "BadSeen", 6)],
+    ("boxes", "worth_of"): [("boxes", "BadBoxes", 5), ("seen", "BadSeen", 6)],
+    ("projects", "project_term"): [("share", "BadShare", 5), ("project", "BadProject", 6)],
+    ("projects", "falling"): [("share", "BadShare", 5), ("project", "BadProject", 6)],
+    ("projects", "plan_worth"): [("yard", "BadYard", 5), ("plan", "BadPlan", 6)],
+    ("projects", "next_projects"): [("yard", "BadYard", 5), ("worked", "BadWorked", 6)],
 }
 
 

@@ -160,7 +160,8 @@ class Language(unittest.TestCase):
     def test_names(self):
         for name, tree in trees():
             for bound in bound_names(tree):
-                self.assertNotIn(bound, NOWHERE | NO_NAMES | set(dir(builtins)), name)
+                # Running examples makes _ a builtin.
+                self.assertNotIn(bound, (NOWHERE | NO_NAMES | set(dir(builtins))) - {"_"}, name)
                 self.assertRegex(bound, r"^(_|_?[A-Za-z][A-Za-z0-9_]*|__init__)$")
                 self.assertFalse(bound.startswith(("_wall", "_pe_", "_dcw_", "_cm_", "_twin_re_", "_law_")), name)
             for node in ast.walk(tree):

@@ -1,5 +1,6 @@
 """Values that several tests need: odd ones of all kinds, and random pairs, terms and ladders."""
 
+import unittest
 from fractions import Fraction
 
 from onenumber.algebra import put_together
@@ -217,3 +218,26 @@ def long_chain(source, count, last):
         weight = Fraction(source.randint(BIG // 2, BIG), BIG + 12)
         term = ("step", as_amount(Fraction(source.randint(1, BIG), source.randint(1, BIG))), ((as_amount(weight), term),))
     return term
+
+
+class Case(unittest.TestCase):
+    """What several test classes ask: which error a call raises, and what this keeps."""
+
+    def told(self, kind, function, *values, **named):
+        with self.assertRaises(kind) as caught:
+            function(*values, **named)
+        # Not one of another class that is a kind of it.
+        self.assertIs(caught.exception.__class__, kind)
+        return caught.exception.value
+
+    def judges(self, function, right, wrong, ahead=()):
+        """That a judge takes all right values and no wrong ones."""
+        for value in right:
+            self.assertIs(function(*ahead, value), True, value)
+        for value in wrong:
+            self.assertIs(function(*ahead, value), False, value)
+
+    def refuses(self, kind, function, values, ahead=(), behind=()):
+        """That a call raises an error with the very value, for each of some values."""
+        for value in values:
+            self.assertIs(self.told(kind, function, *ahead, value, *behind), value)
