@@ -8,6 +8,7 @@ what there was, often enough, one with a fall below 0 and behind it one with a f
 
 from onenumber.amounts import ONE, ZERO, add, divide, greatest, is_below, least, negative, simplest_between, subtract
 from onenumber.companies import alike, counted_ladder, require_two_terms
+from onenumber.convex import value_on
 from onenumber.frames import has_frame
 from onenumber.ladders import sum_of_pays
 from onenumber.pairs import multiply_pair
@@ -18,7 +19,6 @@ from onenumber.parting import (
     line_apart,
     pairs_by_habit,
     rung_at,
-    value_on,
     where_below,
     worths_of_two,
 )

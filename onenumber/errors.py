@@ -2,12 +2,13 @@
 
 
 class MixError(ValueError):
-    """All errors of the package are under this one; each keeps one value."""
+    """All errors of the package are under this one; each keeps one value, and the name of its class."""
 
     def __init__(self, value):
         # The value is not shown in the message: Python refuses to write integers of thousands of digits.
         ValueError.__init__(self, "the field value tells what is wrong")
         self.value = value
+        self.kind = self.__class__.__name__
 
 
 class BadFraction(MixError):

@@ -6,7 +6,7 @@ one rung of the ladder and the next one. So it is enough to look where such line
 of few digits may be taken from there.
 """
 
-from onenumber.amounts import ZERO, add, add_all, divide, is_below, multiply, negative, simplest_between, subtract
+from onenumber.amounts import ZERO, add_all, divide, is_below, multiply, negative, simplest_between, subtract
 from onenumber.companies import counted_ladder, go_with, require_two_terms, worth_in_company
 from onenumber.frames import by_ahead, has_frame, length, outermost_of
 from onenumber.ladders import is_ladder, sum_of_pays
@@ -81,10 +81,6 @@ def line_apart(one, other, cell):
     """The gain of one ladder less that of another one, as a line."""
     (top, slope), (other_top, other_slope) = gain_line(one, cell), gain_line(other, cell)
     return (subtract(top, other_top), subtract(slope, other_slope))
-
-
-def value_on(line, place):
-    return add(line[0], multiply(line[1], place))
 
 
 def where_below(interval, line):

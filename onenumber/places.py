@@ -37,6 +37,13 @@ def part_at(term, place):
     return part
 
 
+def part_of_mix_at(mix, place):
+    """The part of a mix at any value as its place, or None if it is none."""
+    if not is_path(place) or not place or not 0 <= place[0] < len(mix):
+        return None
+    return part_at(mix[place[0]], place[1:])
+
+
 def with_child(term, number, other):
     """A step or an "all" with another term in place of one right within it."""
     if is_step(term):

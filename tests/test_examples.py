@@ -6,6 +6,17 @@ from onenumber.algebra import blend, glue, side_by_side
 from onenumber.amounts import compare, fraction, minus, over
 from onenumber.boxes import best_moves, boxes_worth, reserve, worth_of
 from onenumber.companies import alike, counted, lots, worth_in
+from onenumber.conditions import (
+    best_tests,
+    condition_cost,
+    cost_left,
+    group_cost,
+    group_term,
+    least_order,
+    open_tests,
+)
+from onenumber.console import Console
+from onenumber.days import Day
 from onenumber.dominance import between, is_worse_in, never_worse, worse_in
 from onenumber.errors import BadChoice, BadText
 from onenumber.floors import best_steps, course_worths, floor, floors, is_cover, is_floors
@@ -14,12 +25,14 @@ from onenumber.frames import is_ring, is_witness, ring, witness
 from onenumber.joins import hung, least_cost, least_row, row_cost
 from onenumber.ladderpapers import is_paper, paper
 from onenumber.ladders import chain, is_ladder, left, pays
+from onenumber.logs import account, format_day, is_account, parse_day
 from onenumber.numbers import ladder_of, mix_ladder, numbers
 from onenumber.pairs import are_level, is_ahead, spread, total
 from onenumber.parting import is_parting, parting
 from onenumber.places import after, front, histories, places, step_places
 from onenumber.projects import best_plan, falling, next_projects, plan_worth, project_term, yard_worth
 from onenumber.rules import front_numbers, rule_step, rule_walk, rule_worth
+from onenumber.spans import firsts, pieces, regret
 from onenumber.states import size, states
 from onenumber.terms import is_toss, pair_of, parts, steps
 from onenumber.termtexts import format_term, parse_term
@@ -46,6 +59,8 @@ half, one = (1, 2), (1, 1)
 forest = ((None, (-1, 1), half), (0, (4, 1), half), (None, one, half))
 tables = (((10, 1), (20, 1), (5, 1)), ((0, 1, (1, 10)), (1, 2, (1, 5))))
 first, second = ((1, 1), (((1, 2), (6, 1)), ((1, 2), (0, 1)))), ((1, 1), (((1, 4), (8, 1)), ((3, 4), (2, 1))))
+dear = (((1, 1), (1, 2), None), ((4, 1), (1, 4), None))
+groups = (dear, (((2, 1), (1, 2), None),))
 yard = ((1, 2), (((1, 1), (6, 1)), ((2, 1), (1, 1)), ((-1, 1), (3, 1))))
 
 
@@ -211,6 +226,65 @@ class Examples(unittest.TestCase):
         self.assertEqual(repr(told), "[[0], [0], []]")
         self.assertEqual(repr(project_term((1, 2), ((5, 1), (7, 1)))),
                          "('step', (5, 1), (((1, 2), ('step', (7, 1), (((1, 2), ('end',)),))),))")
+
+    def test_conditions(self):
+        told = [group_cost(dear, [0, 1]), group_cost(dear, [1, 0]), least_order(dear), condition_cost(groups)]
+        self.assertEqual(repr(told), "[(3, 1), (17, 4), [0, 1], (7, 2)]")
+        nothing = ((None, None), (None,))
+        self.assertEqual(repr([open_tests(groups, nothing), best_tests(groups, nothing)]), "[[(0, 0), (0, 1), (1, 0)], [(1, 0)]]")
+        told = [cost_left(groups, ((True, None), (None,))), cost_left(groups, ((None, False), (True,))),
+                best_tests(groups, ((True, None), (False,)))]
+        self.assertEqual(repr(told), "[(4, 1), (0, 1), [(0, 1)]]")
+        self.assertEqual(repr(group_term(dear, [0, 1])),
+                         "('step', (-1, 1), (((1, 2), ('step', (-4, 1), (((3, 4), ('end',)),))), ((1, 2), ('end',))))")
+
+    def test_spans(self):
+        alone = (("step", (0, 1), ()),)
+        self.assertEqual(repr([pieces(alone, (0,), "done"), pieces(alone, (0,), "free")]),
+                         "[[(None, (0, 1), (1, 1))], [(None, (0, 1), (0, 1)), ((0, 1), (0, 1), (1, 1))]]")
+        self.assertEqual(repr(firsts(alone, (0,), "free")), "[(None, None, [None]), ((0, 1), [None, (0,)], [(0,)])]")
+        pair = (("step", (0, 1), (((1, 2), ("end",)),)), ("step", (4, 1), (((1, 2), ("end",)),)))
+        self.assertEqual(repr([pieces(pair, (0,), "done"), regret(pair, (0,), "done", (0,), (0, 1), (8, 1))]),
+                         "[[(None, (4, 1), (1, 2)), ((4, 1), (2, 1), (1, 1))], ((2, 1), (0, 1))]")
+
+    def two_days(self):
+        """The days of the examples, and the number that the term that comes has."""
+        day = Day((work, sure))
+        self.assertEqual(repr([day.first, day.losses(), day.best()]), "[(7, 1), [((0,), (3, 2)), ((1,), (0, 1))], [(1,)]]")
+        day.do((0,), 0)
+        chance = ("step", (0, 1), (((1, 2), sure), ((1, 2), ("end",))))
+        other = Day((chance,), habit="free")
+        other.do((0,), 1)
+        return day, other, other.come(work)
+
+    def test_days(self):
+        day, other, number = self.two_days()
+        told = [day.paid, day.lost, day.weight, day.to_come, day.term(0), len(day.deeds())]
+        self.assertEqual(repr(told), "[(2, 1), (3, 2), (1, 2), (7, 2), ('step', (4, 1), ()), 1]")
+        self.assertEqual(repr([number, other.passed, other.changed, other.to_come, other.deeds()]),
+                         "[0, (3, 2), (2, 1), (2, 1), [('do', (0,), 1), "
+                         "('come', ('step', (2, 1), (((1, 2), ('step', (4, 1), ())),)))]]")
+        other.leave()
+        self.assertEqual(repr([other.is_over, other.lost, other.best()]), "[True, (2, 1), []]")
+
+    def test_logs(self):
+        day, other, _ = self.two_days()
+        other.leave()
+        self.assertEqual(format_day(day), "day done mix ( step 2 ( 1/2 step 4 ( ) ) step 3 ( 1 end ) )\ndo 0 0")
+        self.assertEqual(repr(account(format_day(day))), "[((0, 1), (0, 1), (0, 1), (0, 1), (7, 1)), "
+                                                         "((2, 1), (0, 1), (3, 2), (0, 1), (7, 2))]")
+        told = [is_account(format_day(day), account(format_day(day))[:1]), parse_day(format_day(other)).lost]
+        self.assertEqual(repr(told), "[False, (2, 1)]")
+
+    def test_console(self):
+        console = Console()
+        lines = ("open a done mix ( step 2 ( 1/2 step 4 ( ) ) step 3 ( 1 end ) )", "best a", "do a 0 0")
+        self.assertEqual([console.answer(line) for line in lines], ["ok", "1", "ok"])
+        self.assertEqual([console.answer(line) for line in ("tell a", "losses a", "do a 0 0", "do b 0 0", "do a  0")],
+                         ["first 7 changed 0 paid 2 passed 0 lost 3/2 left 7/2 weight 1/2", "0:3/2 1:0", "? BadOutcome",
+                          "? NoDay", "? BadLine"])
+        self.assertEqual([console.answer(line) for line in ("undo a", "tell a", "names")],
+                         ["ok", "first 7 changed 0 paid 0 passed 0 lost 0 left 7 weight 1", "a"])
 
 
 if __name__ == "__main__":
