@@ -7,7 +7,6 @@ from onenumber.errors import BadLine, MixError
 from onenumber.termtexts import mix_text
 
 FIRST_WORD = "day "
-LENGTH_OF_ENTRY = 5
 
 
 def day_of_line(line):
@@ -49,11 +48,6 @@ def gone_through(text):
     return (day, entries)
 
 
-def is_entry(value):
-    """Whether any value is a tuple of five fractions."""
-    return isinstance(value, tuple) and len(value) == LENGTH_OF_ENTRY and all(is_fraction(part) for part in value)
-
-
 def format_day(day):
     """The log of a day."""
     first = FIRST_WORD + day.first_habit + " " + mix_text(day.first_mix)
@@ -83,4 +77,4 @@ def is_account(text, value):
     """Whether any value is the account of a log."""
     right = account(text)
     # True and 1 are equal, but not of one kind.
-    return isinstance(value, list) and value == right and all(is_entry(entry) for entry in value)
+    return value == right and all(is_fraction(part) for entry in value for part in entry)

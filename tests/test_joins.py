@@ -56,7 +56,7 @@ class Joins(Case):
         sizes, ties = JOIN
         wrong = [
             ((ONE,), ()), ((ONE,) * 8, tuple([(number, number + 1, ONE) for number in range(7)])),
-            (sizes, ties[:1]), (sizes, ties + ((0, 2, ONE),)), (sizes, ties[::-1]), (sizes, ((1, 0, ONE), (1, 2, ONE))),
+            (sizes, ties[:1]), (sizes, ties + ((0, 2, ONE),)), (sizes, ((0, 1, ONE), (0, 2, ONE), (1, 2, ONE))), (sizes, ties[::-1]), (sizes, ((1, 0, ONE), (1, 2, ONE))),
             (sizes, ((0, 1, ONE), (0, 1, ONE))), (sizes, ((0, 1, ONE), (0, 1, (2, 1)))), (sizes, ((0, 0, ONE), (1, 2, ONE))),
             (sizes, ((0, 1, ONE), (1, 3, ONE))), (sizes, ((-1, 1, ONE), (1, 2, ONE))), (sizes, ((0, 1, (0, 1)), (1, 2, ONE))),
             (sizes, ((0, 1, (-1, 2)), (1, 2, ONE))), (((0, 1), ONE, ONE), ties), (((-1, 1), ONE, ONE), ties),
@@ -147,6 +147,10 @@ class Hung(Case):
         self.assertEqual(hung(TREE, 5)[1], [0, 1, 3, 2, 4, 6])
         self.assertEqual(hung(TREE, 6)[1], [4, 3, 0, 2, 5, 1])
         self.assertEqual([task[0] for task in hung(TREE, 3)[0]], [None, None, None, 0, 2, 3])
+        # Of one distance they stand by number, not by what they hang on.
+        crossed = ((ONE,) * 5, ((0, 1, ONE), (0, 2, ONE), (1, 4, ONE), (2, 3, ONE)))
+        self.assertEqual(hung(crossed, 0)[1], [1, 2, 3, 4])
+        self.assertEqual([task[0] for task in hung(crossed, 0)[0]], [None, None, 1, 0])
         self.assertEqual([task[0] for task in hung(TREE, 6)[0]], [None, 0, 1, 1, 2, 4])
 
     def test_tasks(self):
